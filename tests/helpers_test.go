@@ -2,6 +2,7 @@ package tests
 
 import (
 	"fmt"
+	"reflect"
 	"slices"
 	"strings"
 	"testing"
@@ -44,8 +45,8 @@ func shortened(s string) string {
 // brief is text for names of cases: it only tells the length of a long list.
 func brief(parts ...any) string {
 	for i, part := range parts {
-		if l, ok := part.([]int); ok && len(l) > 20 {
-			parts[i] = fmt.Sprintf("a list of %d", len(l))
+		if l := reflect.ValueOf(part); l.Kind() == reflect.Slice && l.Len() > 20 {
+			parts[i] = fmt.Sprintf("a list of %d", l.Len())
 		}
 	}
 	return text(parts...)

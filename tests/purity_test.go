@@ -6,6 +6,8 @@ import (
 	"reflect"
 	"strings"
 	"testing"
+
+	"loop.example/g03113/impl"
 )
 
 // call is one call of a function: a function value, and the arguments for it.
@@ -167,6 +169,8 @@ func checkTotal(t *testing.T, name string, fn any) {
 			hard = hardLists()
 		case reflect.TypeFor[string]():
 			hard = hardTexts()
+		case reflect.TypeFor[[]impl.Term]():
+			hard = hardPolys()
 		default:
 			t.Fatalf("%s: there are no hard arguments of the type %v", name, f.In(i))
 		}
