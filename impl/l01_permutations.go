@@ -135,6 +135,12 @@ func (a permArray) length() int {
 	return sum
 }
 
+// isCoveredAt reports whether the length grows by just one when the numbers at the
+// places i and j are exchanged.
+func (a permArray) isCoveredAt(i int, j int) bool {
+	return a.exchanged(i, j).length() == a.length()+1
+}
+
 // rank counts the places before r with numbers less than c.
 func (a permArray) rank(r int, c int) int {
 	count := 0
@@ -300,12 +306,11 @@ func CoversOf(w []int) [][]int {
 	if !ok {
 		return nil
 	}
-	length := a.length() + 1
 	var covers [][]int
 	for j := range len(w) {
 		for i := range j {
-			if b := a.exchanged(i, j); b.length() == length {
-				covers = append(covers, b.list(len(w)))
+			if a.isCoveredAt(i, j) {
+				covers = append(covers, a.exchanged(i, j).list(len(w)))
 			}
 		}
 	}

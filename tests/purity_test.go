@@ -171,6 +171,10 @@ func checkTotal(t *testing.T, name string, fn any) {
 			hard = hardTexts()
 		case reflect.TypeFor[[]impl.Term]():
 			hard = hardPolys()
+		case reflect.TypeFor[[]impl.Cell]():
+			hard = hardCells()
+		case reflect.TypeFor[[]impl.Class]():
+			hard = hardSums()
 		default:
 			t.Fatalf("%s: there are no hard arguments of the type %v", name, f.In(i))
 		}
