@@ -372,6 +372,11 @@ func WordPerm(n int, word []int) []int {
 	return a.list(n)
 }
 
+// isReducedWord reports whether word is a word for n, and a reduced one.
+func isReducedWord(n int, word []int) bool {
+	return LengthOf(WordPerm(n, word)) == len(word)
+}
+
 func DemazurePerm(n int, word []int) []int {
 	if !isWord(n, word) {
 		return nil

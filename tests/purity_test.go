@@ -175,6 +175,10 @@ func checkTotal(t *testing.T, name string, fn any) {
 			hard = hardCells()
 		case reflect.TypeFor[[]impl.Class]():
 			hard = hardSums()
+		case reflect.TypeFor[[][]int]():
+			hard = hardRows()
+		case reflect.TypeFor[[]impl.Part]():
+			hard = hardParts()
 		default:
 			t.Fatalf("%s: there are no hard arguments of the type %v", name, f.In(i))
 		}
