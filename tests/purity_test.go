@@ -179,6 +179,8 @@ func checkTotal(t *testing.T, name string, fn any) {
 			hard = hardRows()
 		case reflect.TypeFor[[]impl.Part]():
 			hard = hardParts()
+		case reflect.TypeFor[impl.Puzzle]():
+			hard = hardPuzzles()
 		default:
 			t.Fatalf("%s: there are no hard arguments of the type %v", name, f.In(i))
 		}
