@@ -181,6 +181,8 @@ func checkTotal(t *testing.T, name string, fn any) {
 			hard = hardParts()
 		case reflect.TypeFor[impl.Puzzle]():
 			hard = hardPuzzles()
+		case reflect.TypeFor[[]impl.QPart]():
+			hard = hardQParts()
 		default:
 			t.Fatalf("%s: there are no hard arguments of the type %v", name, f.In(i))
 		}
