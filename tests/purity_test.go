@@ -183,6 +183,8 @@ func checkTotal(t *testing.T, name string, fn any) {
 			hard = hardPuzzles()
 		case reflect.TypeFor[[]impl.QPart]():
 			hard = hardQParts()
+		case reflect.TypeFor[impl.Matrix]():
+			hard = hardMatrices()
 		default:
 			t.Fatalf("%s: there are no hard arguments of the type %v", name, f.In(i))
 		}
