@@ -185,6 +185,10 @@ func checkTotal(t *testing.T, name string, fn any) {
 			hard = hardQParts()
 		case reflect.TypeFor[impl.Matrix]():
 			hard = hardMatrices()
+		case reflect.TypeFor[impl.Session]():
+			hard = hardSessions()
+		case reflect.TypeFor[[]string]():
+			hard = hardLines()
 		default:
 			t.Fatalf("%s: there are no hard arguments of the type %v", name, f.In(i))
 		}
